@@ -1,0 +1,1 @@
+"""What a robot sees: robots without names on a ring, and their views of it."""
