@@ -1,6 +1,8 @@
 """The calls on a ring of robots, and what they answer."""
 
-from robotviews.rows import have_same_view, is_even_handed, mirrored, places_alike, rising_row, turned, view_from
+from robotviews.names import axis_places, mirrorings_kept, name_of, names_of, rank_of, turnings_kept
+from robotviews.rows import have_same_view, is_even_handed, lonely_places, mirrored, number_of_views
+from robotviews.rows import places_alike, rising_row, turned, view_from
 
 BEGIN = 0
 PUT = 1
@@ -13,9 +15,19 @@ VIEW = 7
 EVEN = 8
 SAME = 9
 ALIKE = 10
+VIEWS = 11
+LONELY = 12
+NAME = 13
+TURNS = 14
+MIRRORS = 15
+AXIS = 16
+KINDS = 17
+NTH = 18
+RANK = 19
+IFEYES = 20
+TOLD = 21
 
-# How many numbers stand behind each call's own. The calls from 11 on are told here too,
-# as ahead of a begin they are answered -11 like all else.
+# How many numbers stand behind each call's own.
 ARGUMENTS = (2, 2, 1, 1, 1, 0, 1, 1, 1, 2, 1, 0, 0, 0, 0, 0, 0, 1, 2, 0, 1, 0)
 
 NO_SUCH_PLACE = -2
@@ -23,6 +35,7 @@ NOT_BEGUN = -11
 OUT_OF_BOUNDS = -22
 TOO_MANY_ROBOTS = -28
 NOBODY_THERE = -33
+NO_SUCH_NAME = -33
 
 LEAST_PLACES = 3
 MOST_PLACES = 8
@@ -122,6 +135,53 @@ def answer_of_robots(ring, number, places):
     return with_count(places_alike(ring.counts, ring.eyes, p))
 
 
+def answer_kinds(ring, k):
+    if k > MOST_ROBOTS:
+        return [OUT_OF_BOUNDS]
+    return [len(names_of(len(ring.counts), k))]
+
+
+def answer_nth(ring, k, i):
+    if k > MOST_ROBOTS:
+        return [OUT_OF_BOUNDS]
+    names = names_of(len(ring.counts), k)
+    if i >= len(names):
+        return [NO_SUCH_NAME]
+    return with_count(names[i])
+
+
+def answer_ifeyes(ring, e):
+    if e > LAST_EYES:
+        return [OUT_OF_BOUNDS]
+    return [number_of_views(ring.counts, e)] + lonely_places(ring.counts, e)
+
+
+def answer_told(ring):
+    with_robots = [robots for robots in ring.counts if robots > 0]
+    return [len(ring.counts), ring.eyes, sum(ring.counts), len(with_robots)]
+
+
+def answer_of_ring(ring, number):
+    """Answers a call that has no numbers of its own: none of them is refused."""
+    if number == RING:
+        return with_count(ring.counts)
+    if number == VIEWS:
+        return [number_of_views(ring.counts, ring.eyes)]
+    if number == LONELY:
+        return with_count(lonely_places(ring.counts, ring.eyes))
+    if number == NAME:
+        return with_count(name_of(ring.counts))
+    if number == TURNS:
+        return [len(turnings_kept(ring.counts))]
+    if number == MIRRORS:
+        return [len(mirrorings_kept(ring.counts))]
+    if number == AXIS:
+        return with_count(axis_places(ring.counts))
+    if number == RANK:
+        return [rank_of(ring.counts), sum(ring.counts)]
+    return answer_told(ring)
+
+
 def answer_call(ring, number, given):
     """Answers one call: the numbers that are answered, in their order."""
     if number == BEGIN:
@@ -136,11 +196,15 @@ def answer_call(ring, number, given):
         return answer_turn(ring, given[0])
     if number == MIRROR:
         return answer_mirror(ring, given[0])
-    if number == RING:
-        return with_count(ring.counts)
-    if number <= ALIKE:
+    if number == KINDS:
+        return answer_kinds(ring, given[0])
+    if number == NTH:
+        return answer_nth(ring, given[0], given[1])
+    if number == IFEYES:
+        return answer_ifeyes(ring, given[0])
+    if SEEN <= number <= ALIKE:
         return answer_of_robots(ring, number, given)
-    raise NotImplementedError(f"call {number} is not written yet")
+    return answer_of_ring(ring, number)
 
 
 def answers(calls):

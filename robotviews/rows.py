@@ -67,3 +67,13 @@ def have_same_view(counts, eyes, p, q):
 def places_alike(counts, eyes, p):
     """The places with robots that have the same view as one at p, rising."""
     return [q for q in range(len(counts)) if counts[q] > 0 and have_same_view(counts, eyes, p, q)]
+
+
+def number_of_views(counts, eyes):
+    """How many different views robots have: each is counted at the first place that has it."""
+    return len([p for p in range(len(counts)) if counts[p] > 0 and places_alike(counts, eyes, p)[0] == p])
+
+
+def lonely_places(counts, eyes):
+    """The places with just one robot, whose view no robot elsewhere has, rising."""
+    return [p for p in range(len(counts)) if counts[p] == 1 and places_alike(counts, eyes, p) == [p]]

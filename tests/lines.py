@@ -49,19 +49,63 @@ def alike(p):
     return [10, p]
 
 
+def views():
+    return [11]
+
+
+def lonely():
+    return [12]
+
+
+def name():
+    return [13]
+
+
+def turns():
+    return [14]
+
+
+def mirrors():
+    return [15]
+
+
+def axis():
+    return [16]
+
+
+def kinds(k):
+    return [17, k]
+
+
+def nth(k, i):
+    return [18, k, i]
+
+
+def rank():
+    return [19]
+
+
+def ifeyes(e):
+    return [20, e]
+
+
+def told():
+    return [21]
+
+
 def flat(calls):
     return [number for call in calls for number in call]
 
 
-def taken_apart(told):
+def taken_apart(numbers):
     """One list for each call, without the count in front of it."""
     parts = []
     at = 0
-    while at < len(told):
-        after = at + 1 + told[at]
-        if told[at] < 1 or after > len(told):
-            raise AssertionError(f"the counts don't fit at {at}: {told}")
-        parts.append(told[at + 1:after])
+    while at < len(numbers):
+        after = at + 1 + numbers[at]
+        if numbers[at] < 1 or after > len(numbers):
+            raise AssertionError(f"the counts don't fit at {at}: {numbers}")
+        parts.append(numbers[at + 1:after])
         at = after
     return parts
 
@@ -83,3 +127,25 @@ def ask_of(counts, e, *calls):
     """What is answered to the calls on such a ring, without what making it answers."""
     made = ring_of(counts, e)
     return ask(*made, *calls)[len(made):]
+
+
+def all_rings(n, most):
+    """Every ring of n places with so many robots at most."""
+    if n == 0:
+        return [[]]
+    return [[x] + rest for x in range(most + 1) for rest in all_rings(n - 1, most - x)]
+
+
+def moved(counts, s, way):
+    """Where each place goes by a turning (way 1) or mirroring (way -1), and the ring then."""
+    n = len(counts)
+    goes = [(i - s) % n if way == 1 else (s - i) % n for i in range(n)]
+    there = [0] * n
+    for i in range(n):
+        there[goes[i]] = counts[i]
+    return goes, there
+
+
+def all_moved(counts):
+    """The ring by each turning and each mirroring."""
+    return [moved(counts, s, way)[1] for s in range(len(counts)) for way in (1, -1)]

@@ -1,16 +1,9 @@
-"""Every ring there is, held against what the document says of views, turnings and mirrorings."""
+"""Every ring there is, held against what the document says of views, turnings, mirrorings and names."""
 
 import unittest
 
-from tests.lines import alike, ask_of, even, eyes, mirror, ring, same, seen, turn, view
-
-
-def all_rings(n, most):
-    """Every ring of n places with so many robots at most."""
-    if n == 0:
-        return [[]]
-    return [[x] + rest for x in range(most + 1) for rest in all_rings(n - 1, most - x)]
-
+from tests.lines import (alike, all_moved, all_rings, ask, ask_of, axis, begin, even, eyes, ifeyes, kinds, lonely,
+                         mirror, mirrors, moved, name, nth, rank, ring, same, seen, told, turn, turns, view, views)
 
 # What eyes tell of no robots, of one, and so on: written out, so that nothing is reckoned as the program does.
 TOLD = {0: "0123456", 1: "0122222", 2: "0111111"}
@@ -24,30 +17,28 @@ def rows_of(counts, e, p):
     return rising[p:] + rising[:p], falling[back:] + falling[:back]
 
 
+def views_and_lonely(counts, e):
+    """How many different views there are, and the places of the lonely."""
+    having = {}
+    for p, x in enumerate(counts):
+        if x:
+            having.setdefault(min(rows_of(counts, e, p)), []).append(p)
+    return len(having), sorted(places[0] for places in having.values() if len(places) == 1 and counts[places[0]] == 1)
+
+
+def names_in_order(n, k):
+    """The names of k robots, each the first that's met of those it's alike to."""
+    names = []
+    met = set()
+    for counts in sorted(counts for counts in all_rings(n, k) if sum(counts) == k):
+        if tuple(counts) not in met:
+            names.append(counts)
+            met |= {tuple(there) for there in all_moved(counts)}
+    return names
+
+
 def numbers(text):
     return [int(sign) for sign in text]
-
-
-def moved(counts, s, way):
-    """Where each place goes by a turning (way 1) or mirroring (way -1), and the ring then."""
-    n = len(counts)
-    goes = [(i - s) % n if way == 1 else (s - i) % n for i in range(n)]
-    there = [0] * n
-    for i in range(n):
-        there[goes[i]] = counts[i]
-    return goes, there
-
-
-def taken_together(counts):
-    """For each place, those to which it's taken by what leaves the ring as it is."""
-    together = [set() for place in counts]
-    for s in range(len(counts)):
-        for way in (1, -1):
-            goes, there = moved(counts, s, way)
-            if there == counts:
-                for i, j in enumerate(goes):
-                    together[i].add(j)
-    return [sorted(places) for places in together]
 
 
 class AllRings(unittest.TestCase):
@@ -56,14 +47,14 @@ class AllRings(unittest.TestCase):
         lesser, other = sorted([rising, falling])
         those = [q for q, x in enumerate(counts) if x and min(rows_of(counts, e, q)) == lesser]
         with_robots = [q for q, x in enumerate(counts) if x]
-        told = ask_of(counts, e, seen(p), view(p), even(p), alike(p), *[same(p, q) for q in with_robots])
+        got = ask_of(counts, e, seen(p), view(p), even(p), alike(p), *[same(p, q) for q in with_robots])
         wanted = [
             [len(counts)] + numbers(rising),
             [2 * len(counts)] + numbers(lesser + other),
             [1 if rising == falling else 0],
             [len(those)] + those,
         ] + [[1 if q in those else 0] for q in with_robots]
-        self.assertEqual(told, wanted, (counts, e, p))
+        self.assertEqual(got, wanted, (counts, e, p))
 
     def test_views(self):
         for n in range(3, 9):
@@ -73,22 +64,39 @@ class AllRings(unittest.TestCase):
                         if counts[p] > 0:
                             self.check_place(counts, e, p)
 
-    def test_eyes_0_tell_who_is_taken_to_whom(self):
+    def test_views_lonely_and_ifeyes(self):
+        for n in range(3, 9):
+            for counts in all_rings(n, 6 if n < 7 else 4):
+                known = [views_and_lonely(counts, e) for e in range(3)]
+                if_eyes = [[number] + places for number, places in known]
+                for e, (number, places) in enumerate(known):
+                    got = ask_of(counts, e, views(), lonely(), ifeyes(0), ifeyes(1), ifeyes(2), eyes(0))
+                    self.assertEqual(got, [[number], [len(places)] + places, *if_eyes, [e]], (counts, e))
+
+    def test_names(self):
         for n in range(3, 9):
             for counts in all_rings(n, 6):
-                together = taken_together(counts)
-                with_robots = [p for p in range(n) if counts[p] > 0]
-                told = ask_of(counts, 0, *[alike(p) for p in with_robots])
-                self.assertEqual(told, [[len(together[p])] + together[p] for p in with_robots], counts)
+                turnings = [s for s in range(n) if moved(counts, s, 1)[1] == counts]
+                mirrorings = [moved(counts, s, -1)[0] for s in range(n) if moved(counts, s, -1)[1] == counts]
+                stay = [i for i in range(n) if any(goes[i] == i for goes in mirrorings)]
+                got = ask_of(counts, sum(counts) % 3, name(), turns(), mirrors(), axis())
+                wanted = [[n] + min(all_moved(counts)), [len(turnings)], [len(mirrorings)], [len(stay)] + stay]
+                self.assertEqual(got, wanted, counts)
 
-    def test_who_has_the_same_view_with_eyes_0_has_it_with_others(self):
+    def test_order_of_names(self):
         for n in range(3, 9):
-            for counts in all_rings(n, 4):
-                for p in range(n):
-                    if counts[p] > 0:
-                        told = ask_of(counts, 0, alike(p), eyes(1), alike(p), eyes(2), alike(p))
-                        self.assertLessEqual(set(told[0][1:]), set(told[2][1:]), counts)
-                        self.assertLessEqual(set(told[2][1:]), set(told[4][1:]), counts)
+            for k in range(7):
+                names = names_in_order(n, k)
+                self.assertEqual(ask(begin(n, 0), kinds(k), nth(k, len(names))), [[0], [len(names)], [-33]])
+                for i, counts in enumerate(names):
+                    got = ask_of(counts, 0, nth(k, i), mirror(i % n), turn(1), rank())
+                    self.assertEqual(got, [[n] + counts, [0], [0], [i, k]])
+
+    def test_told(self):
+        for n in range(3, 9):
+            for counts in all_rings(n, 6):
+                e = counts[0] % 3
+                self.assertEqual(ask_of(counts, e, told()), [[n, e, sum(counts), n - counts.count(0)]])
 
     def test_turn_and_mirror(self):
         for n in range(3, 9):

@@ -1,14 +1,14 @@
-"""put, eyes, turn, mirror and ring."""
+"""put, eyes, turn, mirror, ring and told."""
 
 import unittest
 
-from tests.lines import TOP, ask, ask_of, begin, eyes, mirror, put, ring, seen, turn
+from tests.lines import TOP, ask, ask_of, begin, eyes, mirror, put, ring, seen, told, turn
 
 
 class Put(unittest.TestCase):
     def test_answers_how_many_there_were(self):
-        told = ask(begin(3, 0), put(1, 2), put(1, 5), put(1, 0), put(1, 1), ring())
-        self.assertEqual(told, [[0], [0], [2], [5], [0], [3, 0, 1, 0]])
+        got = ask(begin(3, 0), put(1, 2), put(1, 5), put(1, 0), put(1, 1), ring())
+        self.assertEqual(got, [[0], [0], [2], [5], [0], [3, 0, 1, 0]])
 
     def test_x_is_how_many_are_there_then_not_how_many_come(self):
         self.assertEqual(ask(begin(3, 0), put(0, 4), put(0, 4), ring()), [[0], [0], [4], [3, 4, 0, 0]])
@@ -68,9 +68,9 @@ class Eyes(unittest.TestCase):
 
     def test_what_each_tells(self):
         counts = [3, 0, 1, 2]
-        told = ask_of(counts, 0, seen(0), eyes(1), seen(0), eyes(2), seen(0), eyes(0), seen(0), ring())
-        self.assertEqual(told, [[4, 3, 0, 1, 2], [0], [4, 2, 0, 1, 2], [1], [4, 1, 0, 1, 1], [2], [4, 3, 0, 1, 2],
-                                [4, 3, 0, 1, 2]])
+        got = ask_of(counts, 0, seen(0), eyes(1), seen(0), eyes(2), seen(0), eyes(0), seen(0), ring())
+        self.assertEqual(got, [[4, 3, 0, 1, 2], [0], [4, 2, 0, 1, 2], [1], [4, 1, 0, 1, 1], [2], [4, 3, 0, 1, 2],
+                               [4, 3, 0, 1, 2]])
 
     def test_each_number_of_robots(self):
         for x in range(1, 7):
@@ -166,6 +166,34 @@ class Ring(unittest.TestCase):
 
     def test_an_earlier_answer_stays(self):
         self.assertEqual(ask_of([1, 0, 0], 0, ring(), put(0, 4), ring()), [[3, 1, 0, 0], [1], [3, 4, 0, 0]])
+
+
+class Told(unittest.TestCase):
+    def test_places_eyes_robots_and_places_with_any(self):
+        self.assertEqual(ask_of([3, 0, 1, 2], 1, told()), [[4, 1, 6, 3]])
+        self.assertEqual(ask_of([0, 0, 0, 0, 2, 0, 0, 1], 2, told()), [[8, 2, 3, 2]])
+
+    def test_each_eyes(self):
+        for e in range(3):
+            self.assertEqual(ask_of([2, 3, 0], e, told()), [[3, e, 5, 2]])
+
+    def test_after_each_change(self):
+        changes = (begin(5, 0), put(4, 2), put(1, 1), eyes(2), turn(3), mirror(2), put(1, 0), begin(3, 1))
+        got = ask(*[call for change in changes for call in (change, told())])
+        self.assertEqual(got[1::2], [[5, 0, 0, 0], [5, 0, 2, 1], [5, 0, 3, 2], [5, 2, 3, 2], [5, 2, 3, 2], [5, 2, 3, 2],
+                                     [5, 2, 1, 1], [3, 1, 0, 0]])
+
+    def test_after_what_was_refused(self):
+        self.assertEqual(ask_of([1, 2, 3], 1, put(3, 0), put(0, 7), put(0, 2), eyes(3), turn(3), mirror(3), begin(9, 0),
+                                told()),
+                         [[-2], [-22], [-28], [-22], [-2], [-2], [-22], [3, 1, 6, 3]])
+
+    def test_corners(self):
+        for n in range(3, 9):
+            self.assertEqual(ask(begin(n, 2), told(), put(0, 1), told(), put(0, 6), told()),
+                             [[0], [n, 2, 0, 0], [0], [n, 2, 1, 1], [1], [n, 2, 6, 1]])
+        for n in range(3, 7):
+            self.assertEqual(ask_of([1] * n, 0, told()), [[n, 0, n, n]])
 
 
 if __name__ == "__main__":

@@ -16,7 +16,7 @@ EXPRESSIONS = (ast.Constant, ast.Name, ast.List, ast.Tuple, ast.Dict, ast.BinOp,
                ast.FormattedValue)
 
 OWN_NAMES = ("len", "range", "enumerate", "zip", "min", "max", "sum", "abs", "sorted", "reversed", "int", "str", "bool",
-             "list", "tuple", "dict", "isinstance", "any", "all", "NotImplementedError")
+             "list", "tuple", "dict", "isinstance", "any", "all")
 
 METHODS = ("append", "extend", "insert", "pop", "index", "count", "get", "items", "copy", "join")
 
@@ -38,6 +38,13 @@ def names_bound(nodes):
     bound |= {node.name for node in nodes if isinstance(node, (ast.FunctionDef, ast.ClassDef))}
     bound |= {alias.name for node in nodes if isinstance(node, ast.ImportFrom) for alias in node.names}
     return bound
+
+
+def names_at_the_top(path):
+    """What the file itself defines: functions, classes and values."""
+    body = ast.parse(path.read_text(encoding="utf-8")).body
+    defined = {node.name for node in body if isinstance(node, (ast.FunctionDef, ast.ClassDef))}
+    return defined | {node.targets[0].id for node in body if isinstance(node, ast.Assign)}
 
 
 class Language(unittest.TestCase):
@@ -106,6 +113,30 @@ class Language(unittest.TestCase):
                 if isinstance(node, ast.ImportFrom):
                     self.assertEqual(node.level, 0, path.name)
                     self.assertRegex(node.module, r"^robotviews\.[a-z_]+$", path.name)
+                    source = PACKAGE / f"{node.module.split('.')[1]}.py"
+                    defined = names_at_the_top(source)
+                    for alias in node.names:
+                        self.assertIn(alias.name, defined, path.name)
+
+    def test_no_two_files_draw_from_one_another(self):
+        draws = {path.stem: {node.module.split(".")[1] for node in nodes_of(path) if isinstance(node, ast.ImportFrom)}
+                 for path in files()}
+        while draws:
+            free = [stem for stem, sources in draws.items() if not sources & set(draws)]
+            self.assertNotEqual(free, [], draws)
+            for stem in free:
+                del draws[stem]
+
+    def test_each_name_of_the_top_is_bound_there_alone(self):
+        for path in files():
+            nodes = nodes_of(path)
+            imported = {alias.name for node in nodes if isinstance(node, ast.ImportFrom) for alias in node.names}
+            local = {node.arg for node in nodes if isinstance(node, ast.arg)}
+            for function in nodes:
+                if isinstance(function, ast.FunctionDef):
+                    local |= {node.id for node in ast.walk(function)
+                              if isinstance(node, ast.Name) and not isinstance(node.ctx, ast.Load)}
+            self.assertEqual(local & (imported | names_at_the_top(path)), set(), path.name)
 
 
 if __name__ == "__main__":
